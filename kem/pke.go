@@ -4,6 +4,7 @@ import (
 	"livery/api"
 	"livery/keccak"
 	"livery/octet"
+	"livery/raise"
 	"livery/ring"
 )
 
@@ -19,23 +20,23 @@ const (
 
 // PkeKey returns an encryption key and a decryption key of K-PKE.
 func PkeKey(d [32]byte) (ek, dk []byte, e api.Errno) {
-	defer func() { e = raised(recover()) }()
+	defer func() { e = raise.Error(recover()) }()
 	public, secret := pair(d)
 	return public, secret, api.OK
 }
 
 // PkeEncrypt returns the ciphertext of m that r leads to.
 func PkeEncrypt(ek []byte, m, r [32]byte) (ct []byte, e api.Errno) {
-	defer func() { e = raised(recover()) }()
-	demand(len(ek) == api.KemEk, api.ErrEk)
+	defer func() { e = raise.Error(recover()) }()
+	raise.Unless(len(ek) == api.KemEk, api.ErrEk)
 	return encrypted(ek, m, r), api.OK
 }
 
 // PkeDecrypt returns the text of a ciphertext.
 func PkeDecrypt(dk, ct []byte) (m [32]byte, e api.Errno) {
-	defer func() { e = raised(recover()) }()
-	demand(len(dk) == api.PkeDk, api.ErrDk)
-	demand(len(ct) == api.KemCt, api.ErrCt)
+	defer func() { e = raise.Error(recover()) }()
+	raise.Unless(len(dk) == api.PkeDk, api.ErrDk)
+	raise.Unless(len(ct) == api.KemCt, api.ErrCt)
 	return decrypted(dk, ct), api.OK
 }
 

@@ -4,6 +4,7 @@ import (
 	"livery/api"
 	"livery/keccak"
 	"livery/octet"
+	"livery/raise"
 	"livery/ring"
 )
 
@@ -37,7 +38,7 @@ func column(rho []byte, j int) vector {
 
 // element returns what the matrix of rho has in row i, column j.
 func element(rho []byte, i, j int) api.Poly {
-	return sure(ring.SampleNtt(octet.Join(rho, []byte{byte(j), byte(i)})))
+	return raise.Sure(ring.SampleNtt(octet.Join(rho, []byte{byte(j), byte(i)})))
 }
 
 // noises returns the vector of the noises of s from that number on.
@@ -51,7 +52,7 @@ func noises(s []byte, first int) vector {
 
 // noise returns noise n of s.
 func noise(s []byte, n int) api.Poly {
-	return sure(ring.Cbd(eta, sure(keccak.Shake(256, noiseLen, s, []byte{byte(n)}))))
+	return raise.Sure(ring.Cbd(eta, raise.Sure(keccak.Shake(256, noiseLen, s, []byte{byte(n)}))))
 }
 
 // transforms returns the transforms of the polynomials of v.
@@ -75,7 +76,7 @@ func product(a, b vector) api.Poly {
 func packed(v vector) []byte {
 	var b []byte
 	for i := range rank {
-		b = append(b, sure(ring.Encode(exactBits, v[i]))...)
+		b = append(b, raise.Sure(ring.Encode(exactBits, v[i]))...)
 	}
 	return b
 }
@@ -84,7 +85,7 @@ func packed(v vector) []byte {
 func unpacked(b []byte) vector {
 	var v vector
 	for i := range rank {
-		v[i] = sure(ring.Decode(exactBits, piece(exactBits, b, i)))
+		v[i] = raise.Sure(ring.Decode(exactBits, piece(exactBits, b, i)))
 	}
 	return v
 }
@@ -107,10 +108,10 @@ func piece(d int, b []byte, i int) []byte {
 
 // narrowed returns a in d bits a coefficient, which is an approximation.
 func narrowed(d int, a api.Poly) []byte {
-	return sure(ring.Encode(d, sure(ring.Compress(d, a))))
+	return raise.Sure(ring.Encode(d, raise.Sure(ring.Compress(d, a))))
 }
 
 // widened returns the polynomial that b approximates in d bits a coefficient.
 func widened(d int, b []byte) api.Poly {
-	return sure(ring.Decompress(d, sure(ring.Decode(d, b))))
+	return raise.Sure(ring.Decompress(d, raise.Sure(ring.Decode(d, b))))
 }
