@@ -42,7 +42,7 @@ func TestCrash(t *testing.T) {
 	draw := rand.New(rand.NewSource(184))
 	seen := map[bool]int{}
 	for what, s := range states(t) {
-		for _, n := range lengths() {
+		for _, n := range append(lengths(), 1700, 2300) { // with 6 and 9 further sectors
 			for _, b := range [][]byte{some(draw, n), disguised(s.c.generation, len(s.c.records), n)} {
 				for _, a := range attempts(s, b) {
 					for fuse := range len(a.steps) {
